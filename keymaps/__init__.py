@@ -1,0 +1,1 @@
+"""Keys: what the keys of an editor mean, one behind another."""
