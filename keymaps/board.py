@@ -1,8 +1,9 @@
 """One keyboard, and what each call on it does and answers."""
 
-from keymaps.bindings import MAP_COUNT, binding_fits, keys_fit
-from keymaps.keystream import MOST_IN_USE, KeyStream
-from keymaps.maps import KeyMap
+from keymaps.bindings import LONGEST_SEQUENCE, MAP_COUNT, binding_fits, keys_fit, sequence_fits
+from keymaps.keystream import MOST_IN_USE, KeyStream, makes_ring, try_out
+from keymaps.maps import KeyMap, binding_map
+from keymaps.overview import bound_sequences, hidden_sequences, next_keys, sequence_state
 
 NOT_AS_TOLD = -1
 NO_SUCH_MAP = -2
@@ -17,14 +18,14 @@ TICKS_AT_FIRST = 10
 
 class Board:
     def __init__(self):
-        self.maps = [KeyMap(0) for number in range(MAP_COUNT)]
-        self.stream = KeyStream(self.maps)
+        self.maps = [KeyMap(number, 0) for number in range(MAP_COUNT)]
+        self.stream = KeyStream(self.maps, [0], [], [])
         self.ticks_to_wait = TICKS_AT_FIRST
 
     def renew_map(self, number, shut):
         if number >= MAP_COUNT:
             return [NO_SUCH_MAP]
-        self.maps[number] = KeyMap(shut)
+        self.maps[number] = KeyMap(number, shut)
         return [number]
 
     def bind(self, number, binding):
@@ -32,11 +33,11 @@ class Board:
             return [NO_SUCH_MAP]
         if not binding_fits(binding):
             return [NOT_AS_TOLD]
-        bindings = self.maps[number].bindings
-        if binding.sequence not in bindings and len(bindings) >= MOST_BINDINGS:
+        key_map = self.maps[number]
+        if binding.sequence not in key_map.bindings and len(key_map.bindings) >= MOST_BINDINGS:
             return [MAP_IS_FULL]
-        bindings[binding.sequence] = binding
-        return [len(bindings)]
+        key_map.add_binding(binding)
+        return [len(key_map.bindings)]
 
     def unbind(self, number, sequence):
         if number >= MAP_COUNT:
@@ -71,6 +72,55 @@ class Board:
     def flush(self):
         self.stream.wait_long_enough()
         return event_answer(self.stream.take_events())
+
+    def tell_open(self):
+        stream = self.stream
+        return counted(stream.open_keys) + counted(stream.digits) + counted(stream.in_use)
+
+    def lookup(self, sequence):
+        if not sequence_fits(sequence):
+            return [NOT_AS_TOLD]
+        counting = self.stream.counting()
+        key_map = binding_map(counting, tuple(sequence))
+        return [sequence_state(counting, tuple(sequence)), 0 if key_map is None else key_map.number + 1]
+
+    def hints(self, keys):
+        if not keys_fit(keys, 0, LONGEST_SEQUENCE - 1):
+            return [NOT_AS_TOLD]
+        counting = self.stream.counting()
+        found = next_keys(counting, tuple(keys))
+        answer = [len(found)]
+        for key in found:
+            answer.extend([key, sequence_state(counting, tuple(keys + [key]))])
+        return answer
+
+    def hidden(self):
+        found = hidden_sequences(self.maps, self.stream.in_use)
+        answer = [len(found)]
+        for number, sequence in found:
+            answer.append(number)
+            answer.extend(counted(sequence))
+        return answer
+
+    def would(self, keys):
+        if not keys_fit(keys, 0, MOST_KEYS_PRESSED):
+            return [NOT_AS_TOLD]
+        stream = self.stream
+        return event_answer(try_out(KeyStream(self.maps, stream.in_use, stream.open_keys, stream.digits), keys))
+
+    def rings(self):
+        found = []
+        for sequence in bound_sequences(self.stream.counting()):
+            if makes_ring(try_out(KeyStream(self.maps, self.stream.in_use, [], []), sequence)):
+                found.append(sequence)
+        answer = [len(found)]
+        for sequence in found:
+            answer.extend(counted(sequence))
+        return answer
+
+
+def counted(numbers):
+    return [len(numbers)] + list(numbers)
 
 
 def event_answer(events):

@@ -57,8 +57,33 @@ def call_flush(board, reader):
     return board.flush()
 
 
+def call_open(board, reader):
+    return board.tell_open()
+
+
+def call_lookup(board, reader):
+    return board.lookup(reader.take_row())
+
+
+def call_hints(board, reader):
+    return board.hints(reader.take_row())
+
+
+def call_hidden(board, reader):
+    return board.hidden()
+
+
+def call_would(board, reader):
+    return board.would(reader.take_row())
+
+
+def call_rings(board, reader):
+    return board.rings()
+
+
 # A call's number is its place here.
-CALLS = (call_map, call_bind, call_unbind, call_use, call_wait, call_press, call_flush)
+CALLS = (call_map, call_bind, call_unbind, call_use, call_wait, call_press, call_flush, call_open, call_lookup,
+         call_hints, call_hidden, call_would, call_rings)
 
 
 def answers(calls):

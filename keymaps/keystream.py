@@ -1,7 +1,7 @@
 """Keys gone through one by one, and the events that come of them."""
 
 from keymaps.bindings import COMMAND, EXCHANGE_MAP, KEYS_AS_THEY_ARE, KEYS_INSTEAD, NOTHING, PUT_MAP, TAKE_MAP
-from keymaps.maps import bound, counting_maps, goes_on, longest_bound
+from keymaps.maps import bound_at_once, counting_maps, goes_on, longest_bound
 
 EVENT_KEY = 0
 EVENT_COMMAND = 1
@@ -17,11 +17,13 @@ MOST_TIMES_PUT = 50
 
 
 class KeyStream:
-    def __init__(self, maps):
+    def __init__(self, maps, in_use, open_keys, digits):
+        # The maps are only read here. The rest is copied, so that a stream
+        # made from another one's values can be tried out and thrown away.
         self.maps = maps
-        self.in_use = [0]
-        self.open_keys = []
-        self.digits = []
+        self.in_use = list(in_use)
+        self.open_keys = list(open_keys)
+        self.digits = list(digits)
         self.to_come = []
         self.times_put = 0
         self.events = []
@@ -57,10 +59,7 @@ class KeyStream:
     def more_may_come(self):
         counting = self.counting()
         sequence = tuple(self.open_keys)
-        binding = bound(counting, sequence)
-        if binding is not None and binding.at_once == 1:
-            return False
-        return goes_on(counting, sequence)
+        return goes_on(counting, sequence) and not bound_at_once(counting, sequence)
 
     def settle(self):
         keys = self.open_keys
@@ -132,3 +131,15 @@ class KeyStream:
             count = count * 10 + digit - FIRST_DIGIT
         self.events.append((kind, number, count, used + len(self.digits)))
         self.digits = []
+
+
+def try_out(stream, keys):
+    """The events of these keys and of the wait behind them, on a stream that is not needed any more."""
+    for key in keys:
+        stream.press_key(key)
+    stream.wait_long_enough()
+    return stream.take_events()
+
+
+def makes_ring(events):
+    return EVENT_RING in [event[0] for event in events]

@@ -57,6 +57,25 @@ def press(*keys, ticks=0):
 
 
 FLUSH = [6]
+OPEN = [7]
+
+
+def lookup(*sequence):
+    return [8, len(sequence), *sequence]
+
+
+def hints(*keys):
+    return [9, len(keys), *keys]
+
+
+HIDDEN = [10]
+
+
+def would(*keys):
+    return [11, len(keys), *keys]
+
+
+RINGS = [12]
 
 
 def joined(calls):
